@@ -52,3 +52,20 @@ func checkMemory(t *testing.T, name string, function func(lists [][]int) []int, 
 		t.Errorf("%s of %v: the result is %v after the arguments are overwritten", name, lists, second)
 	}
 }
+
+// checkApart fails the test if two of the lists, all of one result, share memory.
+func checkApart(t *testing.T, name string, lists ...[]int) {
+	t.Helper()
+	for i, list := range lists {
+		var kept [][]int
+		for _, other := range lists {
+			kept = append(kept, slices.Clone(other[:cap(other)]))
+		}
+		overwrite(list)
+		for j, other := range lists {
+			if i != j && !slices.Equal(other[:cap(other)], kept[j]) {
+				t.Errorf("%s: the lists %d and %d of the result share memory", name, i, j)
+			}
+		}
+	}
+}
